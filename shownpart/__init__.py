@@ -1,0 +1,1 @@
+"""What a part with hidden names tells the rest."""

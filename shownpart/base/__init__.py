@@ -1,0 +1,1 @@
+"""Terms and facts."""

@@ -1,0 +1,1 @@
+"""Tests of shownpart; run them from the top of the repository."""

@@ -1,0 +1,136 @@
+"""The form of the package's files, as far as a short test can see it."""
+
+import ast
+import builtins
+import pathlib
+import unittest
+
+TOP = pathlib.Path(__file__).resolve().parent.parent
+PACKAGE = TOP / "shownpart"
+BUILTINS = set(
+    "len range enumerate zip min max sum abs sorted reversed int str bool bytes list tuple dict set frozenset"
+    " isinstance ord repr any all divmod pow getattr hasattr setattr iter next map"
+    " super property staticmethod classmethod type"
+    " Exception ValueError TypeError KeyError IndexError LookupError ZeroDivisionError ArithmeticError OverflowError"
+    " RuntimeError NotImplementedError AttributeError StopIteration NotImplemented".split()
+)
+LIBRARY = {
+    "heapq": "heappush heappop heapify heapreplace heappushpop", "math": "gcd lcm isqrt comb perm factorial",
+    "itertools": "product combinations permutations chain accumulate pairwise islice zip_longest",
+    "collections": "defaultdict deque", "__future__": "annotations",
+}
+BARRED = ("register", "mro", "elements", "open", "input", "law", "version_info", "with_traceback", "add_note")
+STATEMENTS = (ast.Global, ast.AsyncFunctionDef, ast.AsyncFor, ast.AsyncWith, ast.Await, ast.Import)
+LANDED = {"errors.py", "base/terms.py", "base/facts.py"}
+
+
+def files():
+    return sorted(PACKAGE.rglob("*.py"))
+
+
+def trees():
+    return [(path, ast.parse(path.read_text(encoding="ascii"))) for path in files()]
+
+
+def nodes(kind):
+    return [(path, node) for path, tree in trees() for node in ast.walk(tree) if isinstance(node, kind)]
+
+
+def bound(tree):
+    """All names that a file binds anywhere."""
+    found = set()
+    for node in ast.walk(tree):
+        if isinstance(node, (ast.FunctionDef, ast.ClassDef)):
+            found.add(node.name)
+        elif isinstance(node, ast.arg):
+            found.add(node.arg)
+        elif isinstance(node, ast.Name) and not isinstance(node.ctx, ast.Load):
+            found.add(node.id)
+        elif isinstance(node, ast.alias):
+            found.add(node.asname or node.name)
+        elif isinstance(node, ast.ExceptHandler) and node.name:
+            found.add(node.name)
+    return found
+
+
+def defined(path):
+    """The names that a file defines at its module level."""
+    found = set()
+    for node in ast.parse(path.read_text(encoding="ascii")).body:
+        if isinstance(node, (ast.FunctionDef, ast.ClassDef)):
+            found.add(node.name)
+        elif isinstance(node, ast.Assign):
+            found.update(target.id for target in node.targets)
+    return found
+
+
+class TestForm(unittest.TestCase):
+    def test_files(self):
+        self.assertTrue(LANDED <= {path.relative_to(PACKAGE).as_posix() for path in files()})
+        for path in PACKAGE.rglob("*"):
+            if "__pycache__" not in path.parts:
+                self.assertTrue(path.is_dir() or path.suffix == ".py", path)
+        for path in files():
+            self.assertTrue((path.parent / "__init__.py").exists(), path)
+            self.assertEqual(path.name, path.name.lower())
+
+    def test_sizes_and_characters(self):
+        for path in files():
+            text = path.read_text(encoding="ascii")
+            self.assertTrue(all(sign == "\n" or " " <= sign <= "~" for sign in text), path)
+            self.assertLessEqual(len(text.splitlines()), 399, path)
+            self.assertLessEqual(max(map(len, text.splitlines())), 120, path)
+        for path, node in nodes(ast.FunctionDef):
+            self.assertLessEqual(node.end_lineno - node.lineno + 1, 40, (path, node.name))
+
+    def test_imports(self):
+        for path, node in nodes(ast.ImportFrom):
+            self.assertEqual(node.level, 0, path)
+            names = [alias.name for alias in node.names]
+            if node.module in LIBRARY:
+                self.assertTrue(set(names) <= set(LIBRARY[node.module].split()), path)
+            else:
+                source = TOP / (node.module.replace(".", "/") + ".py")
+                self.assertTrue(node.module.startswith("shownpart.") and set(names) <= defined(source), (path, names))
+
+    def test_statements(self):
+        self.assertEqual(nodes(STATEMENTS), [])
+        self.assertEqual([path for path, node in nodes(ast.Constant) if isinstance(node.value, (float, complex))], [])
+        self.assertEqual([path for path, node in nodes(ast.Div)], [])
+        # Where a class has __eq__, generator expressions stand almost nowhere.
+        self.assertEqual([path for path, node in nodes(ast.GeneratorExp)], [])
+
+    def test_builtins(self):
+        for path, tree in trees():
+            own = bound(tree)
+            for node in ast.walk(tree):
+                if isinstance(node, ast.Name) and node.id not in own:
+                    self.assertIn(node.id, BUILTINS, (path, node.lineno))
+            self.assertEqual((own - {"_"}) & set(dir(builtins)), set(), path)
+
+    def test_names(self):
+        for path, tree in trees():
+            attributes = {node.attr for node in ast.walk(tree) if isinstance(node, ast.Attribute)}
+            self.assertEqual((bound(tree) | attributes) & set(BARRED), set(), path)
+
+    def test_strings(self):
+        for path, node in nodes(ast.Constant):
+            if isinstance(node.value, str):
+                self.assertNotIn("%", node.value, (path, node.lineno))
+
+    def test_decorators(self):
+        for path, node in nodes((ast.FunctionDef, ast.ClassDef)):
+            told = [ast.unparse(decorator) for decorator in node.decorator_list]
+            allowed = ("property", "staticmethod", "classmethod")
+            self.assertTrue(all(word in allowed or word.endswith(".setter") for word in told), (path, node.name))
+
+    def test_module_level(self):
+        for path, tree in trees():
+            for node in tree.body:
+                plain = isinstance(node, ast.Expr) and isinstance(node.value, ast.Constant)
+                kinds = (ast.ImportFrom, ast.FunctionDef, ast.ClassDef, ast.Assign)
+                self.assertTrue(plain or isinstance(node, kinds), (path, node.lineno))
+
+
+if __name__ == "__main__":
+    unittest.main()
