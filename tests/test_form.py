@@ -21,7 +21,10 @@ LIBRARY = {
 }
 BARRED = ("register", "mro", "elements", "open", "input", "law", "version_info", "with_traceback", "add_note")
 STATEMENTS = (ast.Global, ast.AsyncFunctionDef, ast.AsyncFor, ast.AsyncWith, ast.Await, ast.Import)
-LANDED = {"errors.py", "base/terms.py", "base/facts.py"}
+LANDED = {
+    "errors.py", "base/terms.py", "base/facts.py", "base/worlds.py", "books/books.py", "closing/closing.py",
+    "closing/follows.py", "growths/growths.py", "shown/cases.py", "shown/shown.py",
+}
 
 
 def files():
@@ -51,6 +54,31 @@ def bound(tree):
         elif isinstance(node, ast.ExceptHandler) and node.name:
             found.add(node.name)
     return found
+
+
+def imports(path):
+    """The files that a file imports, with the `__init__.py` above them."""
+    found = set()
+    for node in ast.parse(path.read_text(encoding="ascii")).body:
+        if isinstance(node, ast.ImportFrom) and node.module.split(".")[0] == PACKAGE.name:
+            source = TOP / (node.module.replace(".", "/") + ".py")
+            found.add(source)
+            found.update(above / "__init__.py" for above in source.parents if PACKAGE in (above, *above.parents))
+    return found
+
+
+def class_parts():
+    """The names of all methods, properties and attributes, each with the classes that have it."""
+    methods, properties, attributes = {}, {}, {}
+    for path, node in nodes(ast.ClassDef):
+        for part in node.body:
+            if isinstance(part, ast.FunctionDef):
+                told = [ast.unparse(decorator) for decorator in part.decorator_list]
+                (properties if "property" in told else methods).setdefault(part.name, set()).add(node.name)
+        for part in ast.walk(node):
+            if isinstance(part, ast.Attribute) and isinstance(part.ctx, ast.Store):
+                attributes.setdefault(part.attr, set()).add(node.name)
+    return methods, properties, attributes
 
 
 def defined(path):
@@ -117,6 +145,40 @@ class TestForm(unittest.TestCase):
         for path, node in nodes(ast.Constant):
             if isinstance(node.value, str):
                 self.assertNotIn("%", node.value, (path, node.lineno))
+
+    def test_no_two_files_import_from_each_other(self):
+        for path in files():
+            seen, waiting = set(), [path]
+            while waiting:
+                further = imports(waiting.pop()) - seen
+                seen |= further
+                waiting.extend(further)
+            self.assertNotIn(path, seen)
+
+    def test_names_have_one_meaning(self):
+        for path, tree in trees():
+            fixed = {alias.name for node in tree.body if isinstance(node, ast.ImportFrom) for alias in node.names}
+            fixed |= {node.name for node in tree.body if isinstance(node, ast.ClassDef)}
+            used = {node.id for node in ast.walk(tree) if isinstance(node, ast.Name)}
+            for node in ast.walk(tree):
+                if isinstance(node, ast.FunctionDef):
+                    local = {part.arg for part in ast.walk(node) if isinstance(part, ast.arg)}
+                    local |= {part.id for part in ast.walk(node)
+                              if isinstance(part, ast.Name) and not isinstance(part.ctx, ast.Load)}
+                    self.assertEqual(local & fixed, set(), (path, node.name))
+            self.assertEqual({name for name in fixed if name[0].islower()} - used, set(), path)
+        methods, properties, attributes = class_parts()
+        self.assertEqual(set(methods) & set(properties) | set(methods) & set(attributes), set())
+        self.assertEqual(set(properties) & set(attributes), set())
+        builtin = {name for kind in (str, int, bytes, list, dict, set) for name in dir(kind)}
+        self.assertEqual({name for name in {*methods, *properties, *attributes} - {"__init__"}
+                          if name in builtin and not name.startswith("__")}, set())
+
+    def test_generators(self):
+        names = [node.name for _, node in nodes(ast.FunctionDef)]
+        for path, node in nodes(ast.FunctionDef):
+            if any(isinstance(part, (ast.Yield, ast.YieldFrom)) for part in ast.walk(node)):
+                self.assertEqual(names.count(node.name), 1, (path, node.name))
 
     def test_decorators(self):
         for path, node in nodes((ast.FunctionDef, ast.ClassDef)):

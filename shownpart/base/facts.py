@@ -1,6 +1,6 @@
 """Facts: two terms are equal, or are if others are, or some never are together."""
 
-from shownpart.base.terms import by_name, check_renaming, check_term, joint_places, read_term
+from shownpart.base.terms import by_name, check_renaming, check_term, has_names, joint_places, read_term
 from shownpart.base.walks import ascending, put_in, with_names, written
 from shownpart.errors import InvalidFact, InvalidOperation, ParseError
 
@@ -132,6 +132,13 @@ def check_fact(value):
     """Raise `InvalidFact` if the value is no fact."""
     if not is_fact(value):
         raise InvalidFact("no fact, or a name with unlike places")
+
+
+def check_fact_over(value, places):
+    """Raise `InvalidFact` if the value is no fact, or not one over names with these places."""
+    check_fact(value)
+    if not has_names(places, joint_places(sides_of(pairs_in(value)))):
+        raise InvalidFact("a fact over other names")
 
 
 def is_couple(value):

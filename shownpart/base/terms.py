@@ -120,6 +120,13 @@ def check_term(value):
         raise InvalidTerm("no term, or a name with unlike places")
 
 
+def check_term_over(value, places):
+    """Raise `InvalidTerm` if the value is no term, or not one over names with these places."""
+    found = joint_places([value])
+    if found is None or not has_names(places, found):
+        raise InvalidTerm("no term, or not over these names")
+
+
 def check_renaming(places, names):
     """Raise an error if `names` does not rename, or makes two of the names in `places` one."""
     if not isinstance(names, dict) or not all([is_name(name) and is_name(names[name]) for name in names]):
@@ -144,6 +151,11 @@ def joint_places(values):
             return None
         waiting.extend(part[1:])
     return places
+
+
+def has_names(places, wanted):
+    """Whether all wanted names are among those with places, with equal places."""
+    return all([places.get(name) == wanted[name] for name in wanted])
 
 
 def has_form(value):

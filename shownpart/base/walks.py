@@ -8,6 +8,9 @@ recursion. So nothing here calls itself, and terms are compared by numbers
 # So many names tell most terms apart; only longer equal beginnings take more rounds.
 FIRST_WIDTH = 16
 
+# Up to so many parts it is quicker to compare texts.
+MANY_PARTS = 100000
+
 
 def preorder(terms):
     """All subterms of some terms, repeats counted, each one ahead of those in it, from left to right."""
@@ -46,6 +49,14 @@ def written(term):
 
 def numbered(parts):
     """A number for each of the terms of a preorder; equal terms, and only these, have equal numbers."""
+    return numbered_rows(parts)[0]
+
+
+def numbered_rows(parts):
+    """The numbers for the terms of a preorder, and the rows: for each number a name and the numbers of its terms.
+
+    The terms of a term have lower numbers than itself.
+    """
     table = {}
     ready = []
     numbers = []
@@ -55,7 +66,27 @@ def numbered(parts):
         number = table.setdefault((part[0], *below), len(table))
         ready.append(number)
         numbers.append(number)
-    return numbers[::-1]
+    return numbers[::-1], list(table)
+
+
+def rows_and_roots(terms):
+    """The rows of some terms and all that stands in them, and the numbers of the terms themselves."""
+    numbers, rows = numbered_rows(preorder(terms))
+    sizes = sizes_of(rows)
+    roots = []
+    place = 0
+    for _ in terms:
+        roots.append(numbers[place])
+        place = place + sizes[numbers[place]]
+    return rows, roots
+
+
+def sizes_of(rows):
+    """For each row the number of subterms of its term, repeats counted."""
+    sizes = []
+    for row in rows:
+        sizes.append(1 + sum([sizes[number] for number in row[1:]]))
+    return sizes
 
 
 def occurs(term, other):
@@ -93,15 +124,47 @@ def with_names(term, names):
 def ascending(terms):
     """The different subterms of some terms, in which each name has one number of places, ascending."""
     parts = preorder(terms)
-    numbers = numbered(parts)
+    numbers, rows = numbered_rows(parts)
+    found = {number: part for number, part in zip(numbers, parts)}
+    return tuple([found[number] for number in order_of(rows)])
+
+
+def terms_from(rows):
+    """The terms of some rows; what stands in a term is told ahead of it."""
+    terms = []
+    for row in rows:
+        terms.append((row[0], *[terms[number] for number in row[1:]]))
+    return terms
+
+
+def order_of(rows):
+    """The numbers of some rows, in the order of their terms; each name has one number of places."""
+    if sum(sizes_of(rows)) > MANY_PARTS:
+        return order_by_ranks(rows)
+    texts = []
+    for row in rows:
+        below = ",".join([texts[number] for number in row[1:]])
+        texts.append(f"{row[0]}({below})" if below else row[0])
+    found = {text: number for number, text in enumerate(texts)}
+    return [found[text] for text in sorted(found)]
+
+
+def order_by_ranks(rows):
+    """The order of rows whose texts would be too long together."""
+    inner = {number: True for row in rows for number in row[1:]}
+    waiting = [number for number in range(len(rows)) if number not in inner]
+    numbers = []
+    while waiting:
+        number = waiting.pop()
+        numbers.append(number)
+        waiting.extend(rows[number][:0:-1])
     # With one number of places for each name, no term is the beginning of another one:
     # the names from its first one on, to the end of all parts, have the order of the terms.
-    places = {rank: k for k, rank in enumerate(ranked([part[0] for part in parts]))}
+    places = {rank: k for k, rank in enumerate(ranked([rows[number][0] for number in numbers]))}
     found = {}
-    for rank in range(len(parts)):
-        k = places[rank]
-        found.setdefault(numbers[k], parts[k])
-    return tuple(found.values())
+    for rank in range(len(numbers)):
+        found.setdefault(numbers[places[rank]], True)
+    return list(found)
 
 
 def ranked(names):

@@ -1,0 +1,1 @@
+"""Books of facts."""

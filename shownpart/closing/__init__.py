@@ -1,0 +1,1 @@
+"""Closings, and what follows from books."""

@@ -1,0 +1,1 @@
+"""Growths of worlds."""

@@ -1,0 +1,1 @@
+"""Cases of hidden terms, and shown books."""
