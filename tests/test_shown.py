@@ -316,6 +316,27 @@ class TestRandom(Shown):
 
         self.assertGreater(min(found), 100)
 
+    def test_the_same_visible_facts_follow(self):
+        rows = samples.generator_of(95)
+        found = {True: 0, False: 0}
+        for _ in range(150):
+            book = parts.random_book(rows)
+            try:
+                result = shown(book)
+            except TooMany:
+                continue
+            names = list(result.names)
+            for _ in range(15):
+                conditions, conclusion = parts.random_fact(rows, rows.randint(1, 2), names)
+                if result.facts and rows.random() < 0.5:
+                    further, conclusion = rows.choice(result.facts)
+                    conditions = (*conditions, *further)
+                fact = parts.make_fact(conclusion, *conditions)
+                answer = follows(book, fact)
+                found[answer] += 1
+                self.same(follows(result, fact), answer)
+        self.assertGreater(min(found.values()), 300)
+
     def test_books_that_fit(self):
         rows = samples.generator_of(92)
         found = {True: 0, False: 0}

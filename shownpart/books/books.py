@@ -235,7 +235,8 @@ def read_lines(lines):
     if rest[0].startswith("hidden "):
         hidden = rest.pop(0).removeprefix("hidden ").split(",")
     if rest and rest[0].startswith("names "):
-        for word in rest.pop(0).removeprefix("names ").split(","):
+        words = rest.pop(0).removeprefix("names ").split(",")
+        for word in words:
             name, _, many = word.partition("/")
             if not is_name(name) or many not in ("0", "1", "2", "3"):
                 raise ParseError("no name with its places")

@@ -38,7 +38,8 @@ class Store:
         found = {number: True for number in numbers}
         waiting = list(found)
         while waiting:
-            for below in self.table[waiting.pop()][1:]:
+            row = self.table[waiting.pop()]
+            for below in row[1:]:
                 if below not in found:
                     found[below] = True
                     waiting.append(below)
@@ -86,7 +87,7 @@ class Division:
     def include(self, numbers):
         """Take in terms, with all that stands in them."""
         missing = [number for number in numbers if number not in self.leaders]
-        for number in self.store.inner(missing) if missing else []:
+        for number in self.store.inner(missing):
             if number not in self.leaders:
                 self.take(number)
 

@@ -22,7 +22,8 @@ class Judge:
         if not isinstance(rows, tuple):
             return False
         for row in rows:
-            if None in self.told or not isinstance(row, tuple) or len(row) != 3 or not self.is_right(*row):
+            # A row without a pair can only be the last one.
+            if self.told[-1:] == [None] or not isinstance(row, tuple) or len(row) != 3 or not self.is_right(*row):
                 return False
             self.told.append(None if row[0] is None else self.key(row[0]))
         return len(self.told) > 0 and self.told[-1] in (None, self.wanted)

@@ -42,7 +42,7 @@ def images(book, world, growth):
     over = Over(book, world, [])
     new = new_things(book, world, over)
     firsts = {}
-    for number in over.numbers:
+    for number in over.own:
         leader = over.division.leaders[number]
         if leader in new:
             firsts[new[leader]] = values[number]
@@ -135,7 +135,7 @@ def free_growth(book, world, over):
     tables = tables_of(world)
     for name in book.hidden:
         tables[name] = {}
-    for number in over.numbers:
+    for number in over.own:
         row = over.store.table[number]
         below = tuple([things[leaders[part]] for part in row[1:]])
         tables[row[0]][below] = things[leaders[number]]

@@ -12,7 +12,7 @@ class Over:
         for term in terms:
             self.store.number_of(term)
         self.rules = book.contents.rules
-        self.numbers = list(range(len(self.store.table)))
+        self.own = list(range(len(self.store.table)))
         self.division = division_of(self.store, self.rules, [])
         # The numbers of the things that stand in classes; a thing is a term without a name.
         self.ends = {}
@@ -27,7 +27,7 @@ class Over:
         many = -1
         while many < len(joints) and not self.is_broken:
             many = len(joints)
-            for number in self.numbers:
+            for number in self.own:
                 self.join_with_value(number)
             self.division.settle(self.rules)
             leaders = self.division.leaders
