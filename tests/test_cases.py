@@ -153,6 +153,14 @@ class TestCases(Case):
         self.same(self.check(EMPTY, A), [])
         self.same(self.check(Book(names={"a": 0, "z": 0}, hidden=("z",)), ("z",)), [])
 
+    def test_a_visible_term_has_one_case(self):
+        book = loose("e", "a=f(b,b)", "b=e")
+        world = World(1, a=(0, {}), b=(0, {}), f=(2, {}))
+        for term in (A, B, f(B, B), f(f(B, B), A)):
+            self.same([list(cases(book, term)), case_at(book, term, world)], [[((), term)], ((), term)])
+            self.same([are_cases(book, term, (((), term),)), are_cases(book, term, (((AB,), term),))], [True, False])
+        self.same(are_cases(book, f(B, B), (((), A),)), True)
+
     def test_rings_towers_and_chains(self):
         ring = loose("e h", "a=b => e=g(h)", "a=c => h=g(e)", "b=c => e=a")
         self.assertIn(((BC,), A), self.check(ring, E))

@@ -279,6 +279,9 @@ class TestPapers(Case):
                       world.with_table("f", 1, {}), world.with_table("f", 2, {}), world.renamed(e="h")):
             self.same(is_follow_paper(RING, fact, ("world", other)), False)
         self.same(is_follow_paper(RING, MET, ("world", world)), False)
+        for paper in (("worlds", world), ("steps", world), (world, "world"), ("world", world, ()), ["world", world],
+                      world):
+            self.same(is_follow_paper(RING, fact, paper), False)
         self.same(is_follow_paper(RING, read_fact("a=b => never"), ("world", Closing(RING, AB).world())), True)
         self.same(is_follow_paper(RING, NEVER, ("world", World.of(1, 0, {
             "a": (0, {}), "b": (0, {}), "c": (0, {}), "e": (0, {}), "f": (2, {})}))), True)

@@ -185,6 +185,11 @@ class TestIsGrowth(Case):
                             (World.of(1, 0, {"a": (0, {}), "g": (1, {}), "e": (0, {})}), False)):
             self.same(is_growth(book, world, other), told)
 
+    def test_smaller_worlds(self):
+        book = Book(names={"a": 0})
+        self.same([is_growth(book, World(2, a=(0, {})), World(size, a=(0, {}))) for size in (1, 2, 3)],
+                  [False, True, True])
+
     def test_images(self):
         book = loose("e h", "a=f(e,h)", "b=f(h,e)")
         world = World(2, a=(0, {}), b=(0, {(): 1}), f=(2, {(1, 0): 1}))
@@ -217,6 +222,13 @@ class TestPapers(Case):
         self.same(is_growth_paper(RING, world, ("fact", shut, rows)), True)
         further = read_fact("a=c => b=z")
         self.same(is_growth_paper(RING, world, ("fact", further, rows)), False)
+
+    def test_papers_of_other_forms(self):
+        growth = grown(RING, FLAT)
+        self.same(is_growth_paper(RING, FLAT, ("growth", growth)), True)
+        for paper in (("fact", growth), ("growths", growth), (growth, "growth"), ("growth", growth, ()), growth,
+                      ["growth", growth], ("growth", (growth,)), ("", growth)):
+            self.same(is_growth_paper(RING, FLAT, paper), False)
 
     def test_rows_whose_conditions_fail_in_the_book(self):
         book = loose("e", "a=e", "b=e => never", c=0)

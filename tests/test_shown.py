@@ -67,6 +67,7 @@ class TestErrors(Case):
     def test_wrong_books(self):
         for value in ODD:
             if not isinstance(value, Book):
+                self.raises(InvalidBook, missing_fact, value, RING)
                 for action in (shown, left_out, lambda book: left_out(book, 1), lambda book: left_out_all(book, 1),
                                lambda book: is_shown(book, 1), lambda book: missing_fact(book, 1),
                                lambda book: next(shown_facts(book))):

@@ -183,6 +183,8 @@ class TestAsAWhole(Case):
                       World(3, 1, a=(0, {}), f=(1, {(0,): 0})), World(2, 1, a=(0, {}), f=(2, {(0, 0): 0})),
                       World(2, 1, b=(0, {}), f=(1, {(0,): 0})), World(2, 1, a=(0, {}), f=(1, {(0,): 0}), b=(0, {}))):
             self.assertTrue(world != other and not world == other)
+        self.assertFalse(World(2, 0) == World(2, 1))
+        self.assertFalse(World(2, f=(1, {})) == World(2, f=(2, {})))
         for value in samples.WRONG:
             self.assertFalse(world == value)
         self.assertFalse(World(1) == Book())

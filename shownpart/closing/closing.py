@@ -74,7 +74,9 @@ class Closing:
         return self.division.broken is None
 
     def __str__(self):
-        return f"closing with {len(self._classes)} classes" if self.division.broken is None else "closing that failed"
+        if self.division.broken is not None:
+            return "closing that failed"
+        return f"closing with {len(self._classes)} classes"
 
     def class_of(self, term):
         """The class of a node."""

@@ -9,7 +9,7 @@ from shownpart.closing.division import Store, division_of
 from shownpart.closing.judge import Judge
 from shownpart.closing.rules import follows_in, is_settled, rule_of
 from shownpart.closing.steps import Steps
-from shownpart.errors import InvalidFact, InvalidOperation, TooMany
+from shownpart.errors import InvalidOperation, TooMany
 
 MAX_FACTS = 10
 
@@ -100,9 +100,9 @@ def lean(book):
 def is_spare(book, fact):
     """Whether a fact of the book follows from the book without it."""
     check_book(book)
-    if fact not in book:
-        raise InvalidFact("no fact of the book")
-    return first_untold(book.without_facts(fact), [fact]) is None
+    # This raises `InvalidFact` for what is no fact of the book.
+    rest = book.without_facts(fact)
+    return first_untold(rest, [fact]) is None
 
 
 def cores(book, fact):

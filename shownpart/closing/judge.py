@@ -51,8 +51,8 @@ class Judge:
             return False
         if not all([self.tells(number, condition) for number, condition in zip(numbers, conditions)]):
             return False
-        if pair is None or conclusion is None:
-            return pair is None and conclusion is None
+        if conclusion is None:
+            return pair is None
         return self.is_pair_of_book(pair) and self.key(pair) == self.key(conclusion)
 
     def is_by_places(self, pair, numbers):

@@ -53,10 +53,8 @@ class Steps:
         return [pair for pair in zip(rows[one][1:], rows[other][1:]) if pair[0] != pair[1]]
 
     def tell_joint(self, joint):
-        """Tell the row of a joint, if there is none with its pair; those of what it rests on can be told."""
+        """Tell the row of a joint; those of what it rests on can be told."""
         one, other, why = self.division.joints[joint]
-        if self.key((one, other)) in self.told:
-            return
         if why == GIVEN:
             self.tell((one, other), "given", ())
         elif why == PLACES:

@@ -6,7 +6,7 @@ from shownpart.closing.closing import Closing, is_empty
 from shownpart.closing.division import Store, division_of
 from shownpart.closing.rules import fact_from, joined_by, reduced
 from shownpart.errors import InvalidOperation
-from shownpart.growths.growths import carries, check_world_for, is_visible_fact
+from shownpart.growths.growths import carries, is_visible_fact
 from shownpart.growths.meeting import Meeting
 from shownpart.shown.limits import check_limits, terms_with
 from shownpart.shown.states import State
@@ -14,7 +14,6 @@ from shownpart.shown.states import State
 
 def hidden_classes(book):
     """The hidden classes of the book, in the order of its classes; none for an empty book."""
-    check_book(book)
     closing = Closing(book)
     return closing.hidden_classes() if closing else ()
 
@@ -38,7 +37,6 @@ def case_at(book, term, world):
     """A case of a term whose conditions hold in a world that carries the book, or `None`."""
     check_book(book)
     check_term_over(term, book.contents.places)
-    check_world_for(book, world)
     if not carries(book, world):
         raise InvalidOperation("the world does not carry the book")
     if is_visible_term(book, term):
