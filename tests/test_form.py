@@ -67,18 +67,39 @@ def imports(path):
     return found
 
 
-def class_parts():
-    """The names of all methods, properties and attributes, each with the classes that have it."""
-    methods, properties, attributes = {}, {}, {}
-    for path, node in nodes(ast.ClassDef):
-        for part in node.body:
-            if isinstance(part, ast.FunctionDef):
-                told = [ast.unparse(decorator) for decorator in part.decorator_list]
-                (properties if "property" in told else methods).setdefault(part.name, set()).add(node.name)
-        for part in ast.walk(node):
+def class_parts(some=None):
+    """The names of plain methods, static and class methods, properties, attributes and class values.
+
+    Each name is told with the classes that have it.
+    """
+    methods, off_class, properties, attributes, values = {}, {}, {}, {}, {}
+    for tree in [tree for _, tree in trees()] if some is None else some:
+        for node in [node for node in ast.walk(tree) if isinstance(node, ast.ClassDef)]:
+            for part in node.body:
+                if isinstance(part, ast.FunctionDef):
+                    told = [ast.unparse(decorator) for decorator in part.decorator_list]
+                    kind = methods
+                    if "property" in told or f"{part.name}.setter" in told:
+                        kind = properties
+                    elif "classmethod" in told or "staticmethod" in told:
+                        kind = off_class
+                    kind.setdefault(part.name, set()).add(node.name)
+                elif isinstance(part, ast.Assign):
+                    for target in part.targets:
+                        values.setdefault(target.id, set()).add(node.name)
+        # An attribute can be assigned outside of its class, too.
+        for part in ast.walk(tree):
             if isinstance(part, ast.Attribute) and isinstance(part.ctx, ast.Store):
-                attributes.setdefault(part.attr, set()).add(node.name)
-    return methods, properties, attributes
+                attributes.setdefault(part.attr, set()).add(ast.unparse(part.value))
+    return methods, off_class, properties, attributes, values
+
+
+def names_with_two_meanings(some=None):
+    """The names of static and class methods that something else in the package has, too (L5)."""
+    methods, off_class, properties, attributes, values = class_parts(some)
+    others = {*methods, *properties, *attributes, *values}
+    others |= {name for kind in (str, int, bytes, list, dict, set, tuple) for name in dir(kind)}
+    return set(off_class) & others
 
 
 def defined(path):
@@ -167,12 +188,33 @@ class TestForm(unittest.TestCase):
                               if isinstance(part, ast.Name) and not isinstance(part.ctx, ast.Load)}
                     self.assertEqual(local & fixed, set(), (path, node.name))
             self.assertEqual({name for name in fixed if name[0].islower()} - used, set(), path)
-        methods, properties, attributes = class_parts()
+        methods, off_class, properties, attributes, values = class_parts()
+        methods.update(off_class)
+        # The setter of a property is asked for as an attribute.
+        properties = {name: told for name, told in properties.items() if name != "kept"}
         self.assertEqual(set(methods) & set(properties) | set(methods) & set(attributes), set())
         self.assertEqual(set(properties) & set(attributes), set())
+        self.assertEqual(set(values) & {*methods, *properties, *attributes}, set())
         builtin = {name for kind in (str, int, bytes, list, dict, set) for name in dir(kind)}
         self.assertEqual({name for name in {*methods, *properties, *attributes} - {"__init__"}
                           if name in builtin and not name.startswith("__")}, set())
+
+    def test_names_of_class_methods_have_one_meaning(self):
+        _, off_class, _, _, values = class_parts()
+        self.assertTrue({"of", "read"} <= set(off_class) and {"Book", "Closing", "World"} <= off_class["of"])
+        self.assertIn("MAX_NODES", values)
+        self.assertEqual(names_with_two_meanings(), set())
+        made = "class One:\n    @classmethod\n    def read(cls):\n        return cls()\n"
+        fixed = made.replace("classmethod", "staticmethod").replace("cls", "")
+        others = ("class Two:\n    def read(self):\n        pass\n", "class Two:\n    read = 1\n",
+                  "class Two:\n    @property\n    def read(self):\n        return 1\n",
+                  "class Two:\n    def __init__(self):\n        self.read = 1\n",
+                  "def change(box):\n    box.read = 1\n")
+        for first in (made, fixed):
+            self.assertEqual(names_with_two_meanings([ast.parse(first)]), set())
+            for other in others:
+                self.assertEqual(names_with_two_meanings([ast.parse(first), ast.parse(other)]), {"read"})
+        self.assertEqual(names_with_two_meanings([ast.parse(made.replace("read", "split"))]), {"split"})
 
     def test_generators(self):
         names = [node.name for _, node in nodes(ast.FunctionDef)]

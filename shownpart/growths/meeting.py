@@ -36,7 +36,7 @@ class Meeting:
         if self.division.broken is not None:
             self.clash = (list(self.pairs), None)
             return False
-        self.read()
+        self.measure()
         if self.clash is not None or self.reading_of_wanted() is not None:
             return False
         found = [*self.pairs_by_places(), *self.pairs_by_rules()]
@@ -45,7 +45,7 @@ class Meeting:
         self.division.join_all(found)
         return len(found) > 0
 
-    def read(self):
+    def measure(self):
         """Find readings and values of the known classes, or a class with two values."""
         leaders = self.division.leaders
         nodes = shortest_nodes(self.division, self.secret)

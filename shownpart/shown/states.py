@@ -36,7 +36,7 @@ class State:
         pairs = [(self.reading(number), flat(self.division, number, self.readings)) for number in closed]
         return [(one, other) for one, other in pairs if one != other]
 
-    def steps(self, rules):
+    def all_steps(self, rules):
         """All ways in which visible pairs would join open nodes of one name, or make rules hold.
 
         Each one is a tuple of pairs of readings and the pair that is joined
@@ -48,13 +48,13 @@ class State:
 
     def pairs_onward(self, rules):
         """The different pairs of the steps that join hidden classes, with each other or with known ones."""
-        found = {pairs: True for pairs, conclusion in self.steps(rules) if not self.is_about_known(conclusion)}
+        found = {pairs: True for pairs, conclusion in self.all_steps(rules) if not self.is_about_known(conclusion)}
         return list(found)
 
     def facts_onward(self, rules):
         """The pairs of the other steps, and the pair of readings that follows from each, or `None`."""
         found = []
-        for pairs, conclusion in self.steps(rules):
+        for pairs, conclusion in self.all_steps(rules):
             if conclusion is None:
                 found.append((pairs, None))
             elif self.is_about_known(conclusion):
