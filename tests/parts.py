@@ -6,10 +6,13 @@ import itertools
 from shownpart.base.facts import make_fact, places_in
 from shownpart.base.terms import read_term
 from shownpart.base.worlds import World
+from shownpart.board.board import Board
 from shownpart.books.books import Book
 from shownpart.closing.closing import Closing
+from shownpart.code.pieces import Piece
+from shownpart.errors import InvalidEdit, NothingToUndo, Unfit
+from shownpart.text.shell import Shell
 from tests.samples import A, B, C, D, E, WRONG, nested
-
 
 
 def loose_fact(line):
@@ -34,7 +37,9 @@ FLAT = World.of(3, 0, {"a": (0, {}), "b": (0, {(): 1}), "c": (0, {}), "f": (2, {
 APART = FLAT.with_table("c", 0, {(): 2})
 
 # None of these is a name, a term, a fact, a tuple of such, or a text.
-ODD = [*WRONG, Book(), RING, World(1), FLAT, Closing(RING), nested(tuple, 9, RING), nested(list, 9, FLAT)]
+ODD = [*WRONG, Book(), RING, World(1), FLAT, Closing(RING), nested(tuple, 9, RING), nested(list, 9, FLAT),
+       Piece(), Piece(("any", "x"), outs=("x",)), Board(), Shell(), Unfit(("fit", World(1))), NothingToUndo(1),
+       InvalidEdit("no edit"), nested(dict, 9, Board()), (Piece(), Board()), ("fits", Board())]
 
 # No number of things, no thing of a world of one or two things, and no number of places.
 NO_NUMBERS = [value for value in ODD if value not in (0, 1, 3) or isinstance(value, bool)] + [-1, 401, 10 ** 60 - 1]
@@ -179,6 +184,33 @@ def random_book(rows, names=None, many=None, depth=None):
     used = {name for fact in facts for name in places_in(fact)}
     further = {name: PLACES[name] for name in names if name not in HIDDEN}
     return Book(*facts, hidden=tuple(name for name in HIDDEN if name in used), names=further)
+
+
+def is_within_limits(book, hidden=None):
+    """Whether a book that is not empty has no more hidden terms and facts with hidden names than can be shown."""
+    hidden = book.hidden if hidden is None else hidden
+    terms = [node for node in book.nodes if plain_names(node) & set(hidden)]
+    facts = [fact for fact in book.facts if set(places_in(fact)) & set(hidden)]
+    return plain_closing(book)[1] or len(terms) <= 6 and len(facts) <= 4
+
+
+def plain_names(term):
+    """The set of the names in a term."""
+    return {part[0] for part in plain_nodes([term])}
+
+
+def random_apart_books(rows, many):
+    """So many random books, each two of them apart, and none with too much that is hidden; often they do not fit."""
+    books = []
+    while len(books) < many:
+        book = random_book(rows, rows.choice(SETS[:5]), rows.randint(1, 4), 1)
+        cells = [(name,) for name in book.visible if book.names[name] == 0]
+        if rows.random() < 0.7:
+            pair = tuple(sorted(rows.sample(cells, 2)))
+            book = book.with_facts(((pair,), None) if rows.random() < 0.6 else ((), pair))
+        if is_within_limits(book):
+            books.append(book.renamed_by({name: name + "xyz"[len(books)] for name in book.hidden}))
+    return tuple(books)
 
 
 def random_world(rows, size, places):

@@ -4,12 +4,16 @@ import doctest
 import unittest
 
 from shownpart.base import facts, terms, worlds
+from shownpart.board import board
 from shownpart.books import books
 from shownpart.closing import closing, follows
+from shownpart.code import pieces
 from shownpart.growths import growths
-from shownpart.shown import cases, shown
+from shownpart.shown import cases, exchange, fitting, middle, settled, shown
+from shownpart.text import formats, shell
 
-MODULES = (terms, worlds, facts, books, closing, follows, growths, cases, shown)
+MODULES = (terms, worlds, facts, books, closing, follows, growths, cases, shown, fitting, middle, exchange, settled,
+           pieces, board, formats, shell)
 
 VALUES = r'''
 >>> A = ("a",)
@@ -103,6 +107,65 @@ SHOWN = '''
 '''
 
 
+FITTING = r'''
+>>> apart, near = Book.read("a=c\nb=d => never"), World(2, a=(0, {}), b=(0, {(): 1}), c=(0, {}), d=(0, {(): 1}), f=(2, {}))
+>>> [fits(PAIRED, apart), fits(PAIRED, Book.read("a=c"), RING.renamed(e="k")), first_unfit((PAIRED, Book.read("b=g(a)"), apart))]
+[False, True, 3]
+>>> second = Book.read("hidden k\nb=f(k,a)")
+>>> both = glued(near, grown(PAIRED, near), grown(second, near))
+>>> [both.size, both(E), both(("k",)), both.keeps(PAIRED | second)]
+[4, 2, 3, True]
+'''
+
+MIDDLE = r'''
+>>> other = Book.read("a=c\nb=d => never")
+>>> [is_middle(PAIRED, other, Book.read("a=c => b=d")), is_middle(other, PAIRED, Book.read("a=c => b=d")), middle(PAIRED, Book.read("a=c"))]
+[True, False, None]
+>>> [is_middle(PAIRED, other, middle(PAIRED, other)), len(middles((PAIRED, Book.read("a=c"), Book.read("b=d => never"))))]
+[True, 4]
+'''
+
+EXCHANGE = r'''
+>>> plain, less = Book.read("a=c => b=d"), Book.read("hidden e\nb=f(e,a)")
+>>> [are_exchangeable(PAIRED, plain), are_exchangeable(PAIRED, less), is_parted(PAIRED, less, plain.facts[0])]
+[True, False, True]
+>>> [part_against(plain.facts[0]).text, are_exchangeable(RING, RING | Book.read("b=f(b,a)"))]
+['a=c\nb=d => never', False]
+'''
+
+SETTLED = r'''
+>>> [settles(RING, E), is_settled(RING, E, B, conditions=((A, C),)), is_settled(RING, E, ("f", B, A), conditions=((A, C),))]
+[None, True, True]
+>>> [ways_to_settle(RING, E, ((A, B), (A, C))), settling_paper(RING, E)[0], settled_terms(RING)]
+[(((('a',), ('c',)),),), 'open', ((('e',), None), (('f', ('e',), ('a',)), ('b',)), (('f', ('e',), ('c',)), None))]
+'''
+
+PIECES = r'''
+>>> back = Piece(("any", "t"), ("same", ("f", ("t",), ("x",)), ("y",)), ("set", "x", ("t",)), ins=("x", "y"), outs=("x",))
+>>> [back.book().text, follows(back.summary(), read_fact("f(xout,xin)=yin")), str(back)]
+['hidden hiddenaa\nf(hiddenaa,xin)=yin\nhiddenaa=xout', True, 'piece of 3 steps: x, y to x']
+>>> near = World(2, f=(2, {(1, 0): 1}))
+>>> [back.run(near, 0, 1, given=(0, 1)), back.run(near, 0, 1, given=(1, 0)), len(back + Piece(("set", "z", ("x",)), ins=("x",), outs=("z",)))]
+[(1,), None, 5]
+'''
+
+BOARD = r'''
+>>> board = Board()
+>>> [board.do(("put", "p", PAIRED), ("put", "q", Book.read("a=c"))), board.watch(("follows", read_fact("b=d"))), board.steps]
+[(), True, 1]
+>>> [board.do(("untell", "q", read_fact("a=c"))), board.undo(), tells(board.summary("b", "d"), Book.read("b=d")), str(board)]
+[(('follows', ((), (('b',), ('d',)))),), (('follows', ((), (('b',), ('d',)))),), True, 'board of 2 parts, 1 steps']
+'''
+
+TEXTS = r'''
+>>> shell = Shell()
+>>> shell.run("put p a/0 b/0 f/1", "tell p b=f(a)", "watch follows f(a)=f(b)", "tell p a=b", "ask settled f(f(a))", "print p")
+('', '', 'no\n', 'follows f(a)=f(b): yes\n', 'yes\n', 'a=b\nb=f(a)\n')
+>>> [book_table(Book.read("hidden e\na=f(e)")), read_piece("ins x\nouts x\nx := f(x)\nx <> y").names]
+['names a/0 e/0 f/1\nhidden e\n0 a\n1 e\n2 f 1\n0=2', {'f': 1, 'y': 0}]
+'''
+
+
 class TestExamples(unittest.TestCase):
     def check(self, text):
         names = {}
@@ -141,6 +204,27 @@ class TestExamples(unittest.TestCase):
 
     def test_shown(self):
         self.check(CASES + SHOWN)
+
+    def test_fitting(self):
+        self.check(FITTING)
+
+    def test_middle(self):
+        self.check(MIDDLE)
+
+    def test_exchange(self):
+        self.check(EXCHANGE)
+
+    def test_settled(self):
+        self.check(SETTLED)
+
+    def test_pieces(self):
+        self.check(PIECES)
+
+    def test_board(self):
+        self.check(BOARD)
+
+    def test_texts(self):
+        self.check(TEXTS)
 
 
 if __name__ == "__main__":

@@ -23,7 +23,9 @@ BARRED = ("register", "mro", "elements", "open", "input", "law", "version_info",
 STATEMENTS = (ast.Global, ast.AsyncFunctionDef, ast.AsyncFor, ast.AsyncWith, ast.Await, ast.Import)
 LANDED = {
     "errors.py", "base/terms.py", "base/facts.py", "base/worlds.py", "books/books.py", "closing/closing.py",
-    "closing/follows.py", "growths/growths.py", "shown/cases.py", "shown/shown.py",
+    "closing/follows.py", "growths/growths.py", "shown/cases.py", "shown/shown.py", "shown/fitting.py",
+    "shown/middle.py", "shown/exchange.py", "shown/settled.py", "code/pieces.py", "board/board.py", "text/formats.py",
+    "text/shell.py",
 }
 
 

@@ -75,12 +75,7 @@ class World:
         check_book(book)
         if not has_names(self._places, book.contents.places):
             raise InvalidBook("a name that the world does not have, or with other places")
-        values = self.values_of(book.contents.table)
-        for conditions, conclusion in book.contents.rules:
-            if all([values[one] == values[other] for one, other in conditions]):
-                if conclusion is None or values[conclusion[0]] != values[conclusion[1]]:
-                    return False
-        return True
+        return self.is_world_of(book)
 
     def __len__(self):
         return len(range(self._size))
@@ -134,6 +129,17 @@ class World:
             raise InvalidOperation("a thing that comes twice")
         tables = {name: renumbered(self._tables[name], numbers) for name in self._tables}
         return world_of(self._size, numbers[self._rest], self._places, tables)
+
+    def is_world_of(self, book):
+        """Whether the world has all names of a book, and all its facts hold."""
+        if not has_names(self._places, book.contents.places):
+            return False
+        values = self.values_of(book.contents.table)
+        for conditions, conclusion in book.contents.rules:
+            if all([values[one] == values[other] for one, other in conditions]):
+                if conclusion is None or values[conclusion[0]] != values[conclusion[1]]:
+                    return False
+        return True
 
     def looked_up(self, name, things):
         """The value of a name that the world has, at as many things as it has places."""

@@ -1,6 +1,6 @@
 """What a book consists of, worked out once."""
 
-from shownpart.base.facts import fact_text, key_of, pairs_in, sides_of
+from shownpart.base.facts import key_of, pairs_in, sides_of
 from shownpart.base.terms import by_name
 from shownpart.base.walks import order_of, rows_and_roots, terms_from
 
@@ -13,7 +13,7 @@ class Contents:
         self.fact_list = tuple([found[key] for key in sorted(found)])
         self.places = by_name(places)
         self.secret = {name: True for name in sorted(set(hidden))}
-        self.by_text = {fact_text(fact): fact for fact in self.fact_list}
+        self.by_text = {text_by_key(key): found[key] for key in sorted(found)}
         rows, roots = rows_and_roots(sides_of([pair for fact in self.fact_list for pair in pairs_in(fact)]))
         # Row by row: a name and the numbers of its terms, which are told ahead of it.
         self.table = tuple(rows)
@@ -39,6 +39,14 @@ def fact_key(fact):
     """A key that has the order of the facts."""
     conclusion = () if fact[1] is None else key_of(fact[1])
     return (tuple([key_of(pair) for pair in fact[0]]), conclusion)
+
+
+def text_by_key(key):
+    """The text of a fact with this key."""
+    conditions, conclusion = key
+    end = "=".join(conclusion) if conclusion else "never"
+    told = " & ".join(["=".join(pair) for pair in conditions])
+    return f"{told} => {end}" if told else end
 
 
 def rules_of(facts, roots):

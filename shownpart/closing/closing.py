@@ -114,6 +114,10 @@ class Closing:
         """The tuple of the other classes, in the order of the classes."""
         return tuple([self._classes[leader] for leader in self._classes if leader not in self.readings])
 
+    def hidden_things(self):
+        """The list of the things that the hidden classes are in the closed world."""
+        return [thing for thing, leader in enumerate(self._classes) if leader not in self.readings]
+
     def node_number(self, term):
         """The number of a term that is a node, or `None`."""
         ready = []

@@ -135,9 +135,7 @@ def choices(many):
 
 def parts_from(book, fact, value):
     """Whether the value is a world in which the book holds, and the fact does not."""
-    if not isinstance(value, World) or not has_names(value.names, book.contents.places):
-        return False
-    return value.keeps(book) and not value.holds(fact)
+    return isinstance(value, World) and value.is_world_of(book) and not value.holds(fact)
 
 
 def first_untold(book, facts):

@@ -29,9 +29,7 @@ def grown(book, world):
 def is_growth(book, world, value):
     """Whether the value is a growth of the world with all names of both, in which the book holds."""
     check_world_for(book, world)
-    if not isinstance(value, World) or not has_names(value.names, book.contents.places):
-        return False
-    return is_extended(world, value) and value.keeps(book)
+    return isinstance(value, World) and is_extended(world, value) and value.is_world_of(book)
 
 
 def images(book, world, growth):

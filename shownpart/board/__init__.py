@@ -1,0 +1,1 @@
+"""A board of parts."""
