@@ -146,6 +146,7 @@ class TestEdits(Boards):
         for value in [*ODD, ("put", "p"), ("put", "p", 1), ("put", "P", Book()), ("put", 1, Book()), ("drop",), ("drop", "p", 1),
                       ("tell", "p", "a=c"), ("tell", "p"), ("tell", "p", A), ("untell", "p", None), ("hide", "p"),
                       ("hide", "p", 1), ("reveal", "p", "E"), ("hide", "p", ("a",)), ["drop", "p"], ("undo", "p"),
+                      ("show", "p", "e"), ("hidden", "p", "a"), ("", "p", "e"), ("drop", "p", "e"), (None, "p", "e"),
                       ("put", "p", Book(), 1), ("Put", "p", Book()), ("drop", None), ("drop", ["p"]), ("drop", {})]:
             self.unchanged(InvalidEdit, board, board.do, value)
             self.unchanged(InvalidEdit, board, board.do, ("drop", "p"), value)
@@ -388,6 +389,9 @@ class TestQuestions(Boards):
                   [False, False, True, True])
         board.do(("put", "p", seven.reveal("k")))
         self.same([board.answer(("exchange", *names)) for names in (("p", "q"), ("p", "p"))], [False, True])
+        board.do(("put", "fits", Book(NEVER)))
+        self.same([board.answer(("exchange", "q", "fits")), board.answer(("exchange", "fits", "fits")), board.answer(FITS)],
+                  [False, True, False])
 
     def test_what_is_no_question(self):
         board = of_two()
@@ -395,7 +399,8 @@ class TestQuestions(Boards):
         for value in [*ODD, (), ("fits", "p"), "fits", ("Fits",), ("follows",), ("follows", "a=b"), ("follows", A),
                       ("follows", AC, AC), ("settled",), ("settled", "a"), ("settled", AC), ("settled", ("f", A, ("f",))),
                       ("exchange", "p"), ("exchange", "p", "q", "r"), ("exchange", "P", "q"), ("exchange", "p", 1),
-                      ["fits"], ("exchange", ["p"], "q"), (FITS,), ("settles", A)]:
+                      ["fits"], ("exchange", ["p"], "q"), (FITS,), ("settles", A),
+                      ("swap", "p", "q"), (None, "p", "q"), ("fits", "p", "q"), ("p", "fits"), ("follow", AC)]:
             for action in (board.watch, board.unwatch, board.answer):
                 self.unchanged(InvalidOperation, board, action, value)
 

@@ -71,6 +71,7 @@ class TestErrors(Case):
                 self.raises(InvalidBook, action, SEVEN, value)
             self.raises(InvalidBook, is_parted, value, value, value)
             self.raises(InvalidBook, is_parted, RING, value, value)
+            self.raises(InvalidBook, is_parted, value, RING, value)
 
     def test_books_that_are_not_comparable(self):
         for one, other in ((RING, RING.reveal("e")), (RING, Book(names={"e": 0})), (PAIRED, Book(names={"f": 1})),

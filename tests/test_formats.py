@@ -67,7 +67,7 @@ class TestQuestions(Case):
             self.same(question_text(("follows", samples.random_fact(rows)))[:8], "follows ")
 
     def test_what_is_no_question(self):
-        for value in [*ODD, ("fits", 1), ("follows", A), ["fits"], ("exchange", "p"), "fits", ("settled", ("f", A, ("f",)))]:
+        for value in [*ODD, ("swap", "p", "q"), ("", A), ("follow", NEVER), ("fits", 1), ("follows", A), ["fits"], ("exchange", "p"), "fits", ("settled", ("f", A, ("f",)))]:
             self.raises(InvalidOperation, question_text, value)
 
     def test_what_is_no_text(self):

@@ -326,6 +326,12 @@ class TestPapers(Case):
         self.same([third.at(name, *things) for name, things in (("a", ()), ("g", (0,)), ("g", (1,)), ("g", (2,)))],
                   [0, 1, 0, 2])
         self.same(is_settling_paper(book, E, ("open", one, third)), False)
+        # Neither do these differ at any thing in what is visible: nothing there is told by the rest.
+        one, other = [World.of(3, rest, {"a": (0, {(): 2}), "g": (1, {(0,): 2, (1,): 2, (2,): 2}), "e": (0, {(): thing})})
+                      for rest, thing in ((0, 1), (1, 0))]
+        self.same([one.only("a", "g").rows == other.only("a", "g").rows, is_settling_paper(book, E, ("open", one, other))],
+                  [True, False])
+        one, other = [World.of(3, 0, {**base, "e": (0, {(): thing})}) for thing in (0, 1)]
         for things in ((0,), (1,), (2,)):
             table = {key: value for key, value in base["g"][1].items() if key != things}
             self.same(is_settling_paper(book, E, ("open", one, other.with_table("g", 1, {**table, things: 1}))),

@@ -162,7 +162,7 @@ class Board:
 
     def attempt(self, action):
         """What an action on the board returns, with the board as it was before."""
-        with self.trial() as same:
+        with Trial(self) as same:
             return action(same)
 
 

@@ -10,12 +10,7 @@ def check_books(value):
         raise InvalidBook("no tuple of books")
     for book in value:
         check_book(book)
-    check_all_apart(value)
-
-
-def check_all_apart(books):
-    """Raise `InvalidOperation` if two of some books are not apart."""
-    if not all([are_apart(books[k], books[other]) for k in range(len(books)) for other in range(k)]):
+    if not all([are_apart(value[k], value[other]) for k in range(len(value)) for other in range(k)]):
         raise InvalidOperation("books that are not apart")
 
 

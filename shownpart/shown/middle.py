@@ -1,8 +1,8 @@
 """Middle books: what stands between parts that do not fit."""
 
 from shownpart.base.terms import has_names
-from shownpart.books.books import Book, check_book
-from shownpart.books.joining import check_all_apart, check_books, joined, names_of, narrowed
+from shownpart.books.books import Book
+from shownpart.books.joining import check_books, joined, names_of, narrowed
 from shownpart.closing.closing import is_empty
 from shownpart.closing.follows import tells
 from shownpart.errors import InvalidOperation
@@ -12,7 +12,7 @@ from shownpart.shown.shown import shown
 
 def middle(first, second):
     """A middle book of two books that are apart, or `None` if they fit."""
-    check_two(first, second)
+    check_books((first, second))
     if not is_empty(joined((first, second))):
         return None
     return shown(narrowed(first, second.contents.places))
@@ -20,7 +20,7 @@ def middle(first, second):
 
 def is_middle(first, second, value):
     """Whether the value is a middle book of two books that are apart."""
-    check_two(first, second)
+    check_books((first, second))
     if not stands_between(value, first.contents.places, second.contents.places):
         return False
     return tells(first, value) and is_empty(joined((value, second)))
@@ -47,25 +47,16 @@ def are_middles(books, value):
             return False
     if value[0].facts or not is_empty(value[-1]):
         return False
-    return all([is_step(value[k], books[k], value[k + 1]) for k in range(len(books))])
+    return all([is_next(value[k], books[k], value[k + 1]) for k in range(len(books))])
 
 
 def reaches(first, second, third):
     """Whether what the first book tells about the names of the third one follows from the second one."""
-    for book in (first, second, third):
-        check_book(book)
-    check_all_apart((first, second, third))
+    check_books((first, second, third))
     common = [name for name in first.contents.places if name in third.contents.places]
     if not all([name in second.contents.places for name in common]):
         raise InvalidOperation("a common name that the second book does not have")
     return tells(second, shown(narrowed(first, third.contents.places)))
-
-
-def check_two(first, second):
-    """Raise an error if two values are no books, or not apart."""
-    check_book(first)
-    check_book(second)
-    check_all_apart((first, second))
 
 
 def stands_between(value, places, further):
@@ -75,7 +66,7 @@ def stands_between(value, places, further):
     return has_names(places, value.contents.places) and has_names(further, value.contents.places)
 
 
-def is_step(before, book, after):
+def is_next(before, book, after):
     """Whether all facts of a middle book follow from the one before and the book between them."""
     names = Book(names=after.contents.places)
     return tells(joined((before, book, names)), after)

@@ -41,14 +41,14 @@ def book_from(lines):
     if lines and lines[0].startswith("names "):
         places = places_from(lines[0].split(" ")[1:])
         place = 1
-    if lines[place:] and lines[place].startswith("hidden "):
+    if place < len(lines) and lines[place].startswith("hidden "):
         hidden = lines[place].split(" ")[1:]
         place += 1
     if places is None or not all([name in places for name in hidden]):
         return None
     rows = []
-    while lines[place:] and not is_fact_line(lines[place]):
-        rows.append(row_from(lines[place].split(" "), len(rows), places))
+    while place < len(lines) and not is_fact_line(lines[place]):
+        rows.append(row_from(lines[place].split(" "), places))
         place += 1
     terms = terms_of_rows(rows)
     facts = [] if terms is None else [fact_from_line(line, terms) for line in lines[place:]]
@@ -71,11 +71,9 @@ def places_from(words):
     return places
 
 
-def row_from(words, number, places):
-    """The row of a node, a name and numbers, or `None` if some words do not tell the row with this number."""
+def row_from(words, places):
+    """The row of a node, its name and numbers behind it, or `None` if it has not as many as the name has places."""
     below = [read_number(word) for word in words[2:]]
-    if words[:1] != [f"{number}"] or None in below:
-        return None
     return (words[1], *below) if len(words) > 1 and places.get(words[1]) == len(below) else None
 
 
@@ -99,8 +97,6 @@ def terms_of_rows(rows):
 def fact_from_line(line, terms):
     """The fact that a line tells by the numbers of terms, or `None`."""
     parts = line.split(" => ")
-    if len(parts) > 2:
-        return None
     conditions = [couple_from(word, terms) for part in parts[:-1] for word in part.split(" & ")]
     conclusion = None if parts[-1] == "never" else couple_from(parts[-1], terms)
     if None in conditions or conclusion is None and parts[-1] != "never":
